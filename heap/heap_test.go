@@ -60,6 +60,10 @@ func checkThing(t *testing.T, h *Heap, o int, want api.Thing) {
 	if got, ok := h.Get(o); !ok || !same(got, want) {
 		t.Fatalf("P801: Get(%d) = %+v, %v, want %+v", o, got, ok, want)
 	}
+	want.Props, want.Args = nil, nil
+	if got, ok := h.Head(o); !ok || !same(got, want) {
+		t.Fatalf("Head(%d) = %+v, %v, want %+v", o, got, ok, want)
+	}
 }
 
 func checkOwn(t *testing.T, h *Heap, o int, k api.Key, want api.Desc, exists bool) {
@@ -140,6 +144,9 @@ func TestObjectsThatDoNotExist(t *testing.T) {
 		for _, o := range []int{made, made + 1, 100, -1, -2, math.MinInt, math.MinInt32, math.MaxInt32, math.MaxInt} {
 			if got, ok := h.Get(o); ok || !same(got, api.Thing{}) {
 				t.Errorf("P801: of %d objects: Get(%d) = %+v, %v", made, o, got, ok)
+			}
+			if got, ok := h.Head(o); ok || !same(got, api.Thing{}) {
+				t.Errorf("of %d objects: Head(%d) = %+v, %v", made, o, got, ok)
 			}
 			if d, ok := h.Own(o, name("a")); ok || d != (api.Desc{}) {
 				t.Errorf("P801: of %d objects: Own(%d) = %+v, %v", made, o, d, ok)
