@@ -12,8 +12,13 @@ const lengthName = "length"
 
 func lengthKey() api.Key { return api.Key{Str: lengthName} }
 
-// defineInArray performs MDefine on an array.
+// defineInArray performs MDefine on an array. What arrays do in their own way
+// is meant for descriptors that are right; the others are refused first, as by
+// any other object.
 func (w *World) defineInArray(x *array, a api.Ask) api.Reply {
+	if !desc.Right(a.Desc) {
+		return w.Fail(typeError)
+	}
 	length, _ := w.store().Own(x.number, lengthKey())
 	if a.Key == lengthKey() && a.Desc.HasValue {
 		return w.defineLength(x, a, length)
@@ -21,7 +26,7 @@ func (w *World) defineInArray(x *array, a api.Ask) api.Reply {
 	if i, ok := keys.Index(a.Key); ok {
 		return w.defineElement(x, a, i, length)
 	}
-	return w.define(x.self(), a)
+	return w.apply(x.self(), a)
 }
 
 // defineLength defines the property length, which now has the descriptor
@@ -32,7 +37,7 @@ func (w *World) defineLength(x *array, a api.Ask, length api.Desc) api.Reply {
 		return w.Fail(rangeError)
 	}
 	if to >= length.Value.Num {
-		return w.define(x.self(), a)
+		return w.apply(x.self(), a)
 	}
 	if _, ok := desc.Apply(x.Extensible, a.Desc, true, length); !ok || !length.Writable {
 		return answer(false)
@@ -59,12 +64,12 @@ func (w *World) truncate(x *array, to int) int {
 // has the descriptor length.
 func (w *World) defineElement(x *array, a api.Ask, i int, length api.Desc) api.Reply {
 	if i < length.Value.Num {
-		return w.define(x.self(), a)
+		return w.apply(x.self(), a)
 	}
 	if !length.Writable {
 		return answer(false)
 	}
-	r := w.define(x.self(), a)
+	r := w.apply(x.self(), a)
 	if r.OK {
 		length.Value = numberValue(i + 1)
 		w.store().Put(x.number, lengthKey(), length)

@@ -208,6 +208,44 @@ func TestLengthOfOthers(t *testing.T) {
 	}
 }
 
+// TestArraysAndDescriptorsThatAreNotRight: whatever the key is and whatever the
+// array would say of the value, they are refused first.
+func TestArraysAndDescriptorsThatAreNotRight(t *testing.T) {
+	w := newWorld(t)
+	f := w.custom()
+	var wrong []api.Desc
+	for _, v := range []api.Value{undefined, str("1"), number(-1), number(0), number(2), number(3), number(9), number(1 << 32)} {
+		wrong = append(wrong,
+			api.Desc{HasValue: true, Value: v, HasGet: true}, api.Desc{HasValue: true, Value: v, HasSet: true, Set: f},
+			api.Desc{HasValue: true, Value: v, HasWritable: true, HasGet: true, Get: f},
+			api.Desc{HasValue: true, Value: v, Get: f}, api.Desc{HasValue: true, Value: v, Writable: true},
+			api.Desc{HasValue: true, Value: v, Enumerable: true}, api.Desc{HasValue: true, Value: v, Configurable: true},
+		)
+	}
+	wrong = append(wrong,
+		api.Desc{HasWritable: true, HasGet: true}, api.Desc{HasGet: true, Get: number(1)}, api.Desc{HasSet: true, Set: null},
+		api.Desc{Value: number(1)}, api.Desc{Writable: true},
+	)
+	for i := range 8 {
+		signs, ext := []string{"w", ""}[i&1], i&2 != 0
+		props := []api.Entry{field("1", yes, []string{"wec", ""}[i>>2]), field("a", yes, "wec")}
+		v := w.row(3, signs, ext, props...)
+		through := w.proxy(v, w.plain(null))
+		for _, d := range wrong {
+			for _, k := range []api.Key{name("length"), name("0"), name("1"), name("3"), name("4294967294"), name("a"), name("b"), {Sym: 1}} {
+				what := fmt.Sprintf("P903: %+v of %+v with length %q, ext %v", d, k, signs, ext)
+				logged := len(w.log)
+				w.throwsError(what, w.do(api.MDefine, v, api.Ask{Key: k, Desc: d}), "TypeError")
+				if len(w.log) != logged {
+					t.Fatalf("%s: it is in the log", what)
+				}
+				w.throwsError(what+", by a proxy", w.do(api.MDefine, through, api.Ask{Key: k, Desc: d}), "TypeError")
+				w.is(what, v, append([]api.Entry{field("length", number(3), signs)}, props...)...)
+			}
+		}
+	}
+}
+
 func TestMSetOfArrays(t *testing.T) {
 	w := newWorld(t)
 	v := w.array(number(1), number(2), number(3))

@@ -346,6 +346,7 @@ func (m *model) hand(o int, this api.Value, args []api.Value) api.Reply {
 }
 
 func (m *model) defineInArray(o int, a api.Ask) api.Reply {
+	m.must(desc.Right(a.Desc))
 	length, _ := m.own(o, name("length"))
 	if a.Key == name("length") && a.Desc.HasValue {
 		to, fits := arrays.Length(a.Desc.Value)

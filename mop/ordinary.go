@@ -83,6 +83,11 @@ func (w *World) define(x *ordinary, a api.Ask) api.Reply {
 	if !desc.Right(a.Desc) {
 		return w.Fail(typeError)
 	}
+	return w.apply(x, a)
+}
+
+// apply applies a descriptor that is right to the own property.
+func (w *World) apply(x *ordinary, a api.Ask) api.Reply {
 	now, has := w.store().Own(x.number, a.Key)
 	d, ok := desc.Apply(x.Extensible, a.Desc, has, now)
 	if ok {

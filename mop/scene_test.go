@@ -243,6 +243,9 @@ func (s *scene) action(d *dice) action {
 	if d.one(3) {
 		x.a.Desc = only(s.existing(d))
 	}
+	if d.one(12) {
+		x.a.Desc.HasGet = true // not right if it has a Value
+	}
 	for range d.next(4) {
 		x.a.List = append(x.a.List, s.existing(d))
 	}
