@@ -105,15 +105,18 @@ func (w *World) List(v api.Value) ([]api.Value, api.Reply) {
 	return l, api.Reply{}
 }
 
-// Array returns a new array with the elements l.
-func (w *World) Array(l []api.Value) (api.Value, api.Reply) {
+// Array returns a new array with the elements l, which has no prototype.
+func (w *World) Array(l []api.Value) (api.Value, api.Reply) { return w.ArrayWith(nullValue(), l) }
+
+// ArrayWith returns a new array with the prototype proto and the elements l.
+func (w *World) ArrayWith(proto api.Value, l []api.Value) (api.Value, api.Reply) {
 	props := make([]api.Entry, 0, len(l)+1)
 	props = append(props, api.Entry{Key: lengthKey(), Desc: data(numberValue(len(l)), true, false, false)})
 	for i, v := range l {
 		k := api.Key{Str: numbers.Text(i)}
 		props = append(props, api.Entry{Key: k, Desc: data(v, true, true, true)})
 	}
-	return w.create(api.Array, nullValue(), props)
+	return w.create(api.Array, proto, props)
 }
 
 // create makes an extensible object.

@@ -311,6 +311,29 @@ func TestArray(t *testing.T) {
 	}
 }
 
+// TestArrayWith: it is Array but for the prototype.
+func TestArrayWith(t *testing.T) {
+	for _, proto := range []api.Value{null, obj(0), obj(7)} {
+		w := newWorld(t)
+		for _, l := range [][]api.Value{nil, {yes}, {number(5), undefined, obj(0), str("a")}} {
+			plain, r := w.Array(l)
+			w.replies("P905", r, api.Reply{})
+			want := w.thing(plain)
+			want.Proto = proto
+			v, r := w.ArrayWith(proto, l)
+			w.replies("P905", r, api.Reply{})
+			if got := w.thing(v); v != obj(plain.Num+1) || show(got) != show(want) {
+				t.Errorf("P905: ArrayWith = %+v, want %+v", got, want)
+			}
+		}
+		v, r := New(api.Bounds{}).ArrayWith(proto, nil)
+		w.replies("P905", r, api.Reply{Flow: api.NoRoom})
+		if v != undefined {
+			t.Errorf("P905: beside an error there is %+v", v)
+		}
+	}
+}
+
 // TestConversionsThatEnd: a bound stops them like anything else.
 func TestConversionsThatEnd(t *testing.T) {
 	for fuel := range 20 {
